@@ -1,9 +1,8 @@
 """The merge of tuples of names, and the clash that stands in its way where there is none."""
 
-from heapq import heapify, heappop, heappush
-
 from nextbehind.errors import BadTuple, Clash
 from nextbehind.names import are_different_names, is_name
+from nextbehind.params import is_index
 
 _STEP_PARTS = 3
 _FEWEST_STEPS = 2
@@ -13,7 +12,7 @@ class Merge:
     """A merge of rows of names while it is made, from which names can also be dropped.
 
     A name can be taken when it is first in each row that still has it. So the first of its rows
-    tells which of several such names the merge takes, and a heap finds that name without a search.
+    tells which of several such names the merge takes, and the lowest bit of a number finds it.
     """
 
     def __init__(self, rows):
@@ -22,14 +21,18 @@ class Merge:
         self.gone = {}
         self.heads = [0] * len(rows)
         self.behind = {name: len([at for index, at in self.places[name] if at > 0]) for name in self.places}
-        self.ready = [(self.places[name][0][0], name) for name in self.places if self.behind[name] == 0]
-        heapify(self.ready)
+        # Each name that can be taken is there as the bit of the first of its rows.
+        self.ready = 0
+        for name in self.places:
+            self._prepare(name)
 
     def draw(self):
         """Take names until the merge is done or stuck, and return them in its order."""
         names = []
         while self.ready:
-            _, name = heappop(self.ready)
+            index = (self.ready & -self.ready).bit_length() - 1
+            self.ready &= self.ready - 1
+            name = self.rows[index][self.heads[index]]
             self.drop(name)
             names.append(name)
         return names
@@ -50,8 +53,11 @@ class Merge:
         if at < len(row):
             head = row[at]
             self.behind[head] -= 1
-            if self.behind[head] == 0:
-                heappush(self.ready, (self.places[head][0][0], head))
+            self._prepare(head)
+
+    def _prepare(self, name):
+        if self.behind[name] == 0:
+            self.ready |= 1 << self.places[name][0][0]
 
     def ring(self, start, limit):
         """Return the fewest steps from a name back to it, or () if they are more than the limit."""
@@ -115,14 +121,10 @@ def _is_step(spots, thing):
         return False
     one, other, index = thing
     # Only names are looked up: other values may have no hash.
-    if not is_name(one) or not is_name(other) or not _is_index(index, len(spots)):
+    if not is_name(one) or not is_name(other) or not is_index(index, len(spots)):
         return False
     spot = spots[index]
     return one in spot and other in spot and spot[one] < spot[other]
-
-
-def _is_index(thing, many):
-    return isinstance(thing, int) and not isinstance(thing, bool) and 0 <= thing < many
 
 
 def _places(rows):

@@ -5,7 +5,6 @@ import pathlib
 import unittest
 
 PACKAGE = pathlib.Path(__file__).resolve().parent.parent / "nextbehind"
-LIBRARY = {"heapq": {"heapify", "heappop", "heappush"}}
 
 
 def sources():
@@ -36,9 +35,19 @@ class LanguageTest(unittest.TestCase):
         for name, text in sources().items():
             for node in ast.walk(ast.parse(text)):
                 self.assertNotIsInstance(node, ast.Import)
-                if isinstance(node, ast.ImportFrom) and not node.module.startswith("nextbehind."):
-                    words = {alias.name for alias in node.names}
-                    self.assertLessEqual(words, LIBRARY.get(node.module, set()), name)
+                if isinstance(node, ast.ImportFrom):
+                    self.assertIn(f"{node.module.removeprefix('nextbehind.')}.py", sources(), name)
+                    self.assertIsNone(next((alias.asname for alias in node.names if alias.asname), None), name)
+
+    def test_no_two_files_import_from_each_other(self):
+        wanted = {}
+        for name, text in sources().items():
+            nodes = [node for node in ast.walk(ast.parse(text)) if isinstance(node, ast.ImportFrom)]
+            wanted[name.removesuffix(".py")] = {node.module.removeprefix("nextbehind.") for node in nodes}
+        while wanted:
+            free = [name for name in wanted if not wanted[name] & set(wanted)]
+            self.assertTrue(free, wanted)
+            wanted = {name: wanted[name] for name in wanted if name not in free}
 
 
 if __name__ == "__main__":
