@@ -28,19 +28,19 @@ def is_future(world, thing):
 
 def futures(world, *names):
     """Yield all futures of the names, in lexicographic order."""
-    members, aheads = _members_and_aheads(world, names)
+    members, aheads = members_and_aheads(world, names)
     yield from each_order(members, aheads)
 
 
 def count(world, *names):
     """Return the number of futures of the names."""
-    _, aheads = _members_and_aheads(world, names)
+    _, aheads = members_and_aheads(world, names)
     return many_behind(aheads)[0]
 
 
 def nth(world, index, *names):
     """Return the future of the names at an index in lexicographic order."""
-    members, aheads = _members_and_aheads(world, names)
+    members, aheads = members_and_aheads(world, names)
     if not is_index(index, many_behind(aheads)[0]):
         raise BadIndex("this is not the index of a future")
     return order_at(members, aheads, index)
@@ -50,7 +50,7 @@ def place(world, future, *names):
     """Return the index of a future of the names in lexicographic order."""
     if not is_future(world, future):
         raise BadFuture("this is not a future of the world")
-    members, aheads = _members_and_aheads(world, names)
+    members, aheads = members_and_aheads(world, names)
     if set(future) != set(members):
         raise BadFuture("this is not a future of these names")
     return place_of(members, aheads, future)
@@ -69,7 +69,7 @@ def base_orders(world, *names):
         yield (order, merged(*rows, order))
 
 
-def _members_and_aheads(world, names):
+def members_and_aheads(world, names):
     """Return the closure of the names, and for each of its classes those that must stand ahead of it."""
     members = closure(world, *names)
     if len(members) > _MOST_CLASSES:

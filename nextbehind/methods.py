@@ -26,5 +26,26 @@ def is_stopper(method):
     return method[2] is None
 
 
+def methods_under(world, key):
+    """Return a dict from the classes that define a method of this name to it, in the order of definition."""
+    found = {}
+    for name in world.names:
+        methods = world.member(name).methods
+        if key in methods:
+            found[name] = methods[key]
+    return found
+
+
+def classes_with(world, key):
+    """Return the classes that define a method of this name, or all classes where the name is None."""
+    return world.names if key is None else tuple(methods_under(world, key))
+
+
+def other_stoppers(world, key, name):
+    """Return the stoppers of a world for a method, without one class, in the order of definition."""
+    methods = methods_under(world, key)
+    return [other for other in methods if other != name and is_stopper(methods[other])]
+
+
 def _are_words(thing):
     return are_names(thing) and len(thing) <= _MOST_WORDS

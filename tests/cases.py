@@ -42,6 +42,16 @@ def method_world():
     return world
 
 
+def torn_world():
+    """A world in which d and e cannot be joined."""
+    return world_of("a", "b", "c", "d a b", "e b a", "f c d")
+
+
+def wide_world():
+    """A world of which some classes have more than ten classes in their closure, and some have ten."""
+    return world_of(*LETTERS[:9], "j a b c d e", "k e f g h i", "l j k", "m j", "n f g h")
+
+
 def some_worlds(seed, many, classes):
     """Return worlds with as many classes, whose bases are taken by chance where they can be merged."""
     source = random.Random(seed)
@@ -59,6 +69,32 @@ def _some_world(source, classes):
         except ArithmeticError:
             world.define(name, **methods)
     return world
+
+
+def called_worlds(seed, many, classes):
+    """Return worlds as above with methods under "m" that take and add options, some of which are stoppers."""
+    source = random.Random(seed)
+    return [_called_world(source, classes) for _ in range(many)]
+
+
+def _called_world(source, classes):
+    world = World()
+    names = source.sample(LETTERS, classes)
+    for at, name in enumerate(names):
+        bases = source.sample(names[:at], source.choice([0, 1, 2, 2])) if at > 2 else ()
+        methods = {"m": _some_method(source)} if source.random() < 0.7 else {}
+        try:
+            world.define(name, *bases, **methods)
+        except ArithmeticError:
+            world.define(name, **methods)
+    return world
+
+
+def _some_method(source):
+    takes, before, passes, after = [
+        tuple(source.sample(row, source.randint(0, 2))) for row in ("opq", ["hi", "yes", "no"], "opq", ["bye", "no"])
+    ]
+    return (takes, before, None, ()) if source.random() < 0.3 else (takes, before, passes, after)
 
 
 def picture(world):

@@ -8,43 +8,11 @@ from nextbehind.errors import BadFuture, BadIndex, BadName, BadNames, Clash, NoC
 from nextbehind.futures import base_orders, closure, count, futures, is_future, nth, place
 from nextbehind.world import World
 from tests.cases import (
-    LETTERS, METHOD, WorldCase, diamond, example_world, free_world, picture, possible, some_worlds, subsets, world_of,
+    LETTERS, METHOD, WorldCase, diamond, example_world, free_world, picture, possible, some_worlds, subsets,
+    torn_world, wide_world, world_of,
 )
 from tests.samples import no_names, no_tuples
-
-
-def is_future_by_the_words(world, names):
-    """Whether a tuple of different classes is a future as point 9 tells it."""
-    for name in names:
-        line = world[name].linearization
-        if tuple(other for other in names if other in line) != line:
-            return False
-    return True
-
-
-def closure_by_the_words(world, names):
-    found = set(names)
-    while True:
-        more = found | {base for name in found for base in world[name].bases}
-        if more == found:
-            return tuple(name for name in world.names if name in found)
-        found = more
-
-
-def futures_by_the_words(world, names):
-    """All futures of the names: permutations come in lexicographic order here."""
-    members = closure_by_the_words(world, names)
-    return [order for order in itertools.permutations(members) if is_future_by_the_words(world, order)]
-
-
-def torn_world():
-    """A world in which d and e cannot be joined."""
-    return world_of("a", "b", "c", "d a b", "e b a", "f c d")
-
-
-def wide_world():
-    """A world of which some classes have more than ten classes in their closure, and some have ten."""
-    return world_of(*LETTERS[:9], "j a b c d e", "k e f g h i", "l j k", "m j", "n f g h")
+from tests.words import closure_by_the_words, futures_by_the_words, is_future_by_the_words
 
 
 class ClosureTest(WorldCase):

@@ -18,6 +18,23 @@ FUNCTIONS = {
         "count": "(world, *names)", "nth": "(world, index, *names)", "place": "(world, future, *names)",
         "base_orders": "(world, *names)",
     },
+    "growing": {"grown": "(world, future)"},
+    "questions": {
+        "join": "(world, *names)", "ahead": "(world, one, other)", "behind": "(world, one, other, *, method=None)",
+        "always": "(world, name, method, *others)", "sometimes": "(world, name, method, *others)",
+    },
+    "checks": {
+        "check_join": "(world, thing, *names)", "check_ahead": "(world, thing, one, other)",
+        "check_behind": "(world, thing, one, other, *, method=None)",
+        "check_always": "(world, thing, name, method, *others)",
+        "check_sometimes": "(world, thing, name, method, *others)",
+    },
+    "calls": {
+        "call": "(world, future, method, *options)", "call_class": "(world, name, method, *options)",
+        "first_refused": "(world, method, options, *names)",
+        "first_said": "(world, word, method, options, *names)",
+        "first_unsaid": "(world, word, method, options, *names)",
+    },
 }
 
 CHAIN = {"__init__": "(self, steps)", "show": "(self)", "__eq__": None, "__add__": None, "__len__": None}
@@ -43,6 +60,10 @@ METHODS = {
             "__contains__": None, "__getitem__": None, "__eq__": None, "__str__": None,
         },
         "Member": {"label": None, "bases": None, "linearization": None, "methods": None},
+    },
+    "calls": {
+        "Caller": {"__init__": "(self, world, method)", "__call__": "(self, future, options=())",
+                   "on": "(self, name, *options)", "many": None},
     },
 }
 
@@ -89,6 +110,7 @@ class InterfaceTest(unittest.TestCase):
         for name in METHODS["world"]["Member"]:
             self.assertIsInstance(vars(world.Member)[name], property)
         self.assertIsNotNone(vars(world.Member)["bases"].fset)
+        self.assertIsInstance(vars(module_of("calls").Caller)["many"], property)
 
 
 if __name__ == "__main__":
