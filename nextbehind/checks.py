@@ -36,9 +36,10 @@ def check_behind(world, thing, one, other, *, method=None):
         return [name for name in _ahead_of(other, thing.future) if name in counting][-1:] == [one]
     if type(thing) is not Cannot:
         return False
-    if type(thing.reason) is Through:
-        return _is_through(world, thing.reason, one, other, counting)
-    return _is_never_ahead(world, thing.reason, one, other)
+    reason = thing.reason
+    if type(reason) is Through:
+        return _is_through(world, reason, one, other, counting)
+    return _is_never_ahead(world, reason, one, other)
 
 
 def check_always(world, thing, name, method, *others):
